@@ -1,0 +1,1 @@
+"""Soundings across a channel: channelway.survey.answers goes through a list of calls."""
