@@ -9,6 +9,7 @@ TOO_MANY = -28
 
 MOST_SECTIONS = 12
 DEEPEST = 400
+WIDEST_TURN = 8
 PARTS_OF_CUBIC_METRE = 40
 
 
@@ -52,14 +53,35 @@ def volume_by(survey, rows):
     return [total // PARTS_OF_CUBIC_METRE, total % PARTS_OF_CUBIC_METRE]
 
 
+def short_of(row, wanted):
+    return [max(wanted - depth, 0) for depth in row]
+
+
+def deeper_than(row, other):
+    return [max(row[j] - other[j], 0) for j in range(len(row))]
+
+
 def to_be_dug(survey, i):
-    wanted = survey.designs[i]
-    return [max(wanted - depth, 0) for depth in survey.depths[i]]
+    return short_of(survey.depths[i], survey.designs[i])
 
 
 def too_deep(survey, i):
     allowed = survey.designs[i] + survey.over
     return [max(depth - allowed, 0) for depth in survey.depths[i]]
+
+
+def high_points(survey, i):
+    return [j for j in range(survey.points) if survey.depths[i][j] < survey.designs[i]]
+
+
+def deepest_onward(rows, k):
+    """By section and point: how deep the deepest way is from there on to the last section."""
+    found = [list(rows[-1])]
+    for row in reversed(rows[:-1]):
+        ahead = found[-1]
+        found.append([min(row[j], max(ahead[max(j - k, 0):j + k + 1])) for j in range(len(row))])
+    found.reverse()
+    return found
 
 
 def begin(survey, points, step, apart, over):
@@ -172,8 +194,103 @@ def wasted(survey):
     return volume_by(survey, [too_deep(survey, i) for i in range(len(survey.depths))])
 
 
+def gone(survey):
+    if len(survey.marked) == 0:
+        return [NONE_YET]
+    sections = len(survey.depths)
+    went = [deeper_than(survey.depths[i], survey.marked[i]) for i in range(sections)]
+    came = [deeper_than(survey.marked[i], survey.depths[i]) for i in range(sections)]
+    return volume_by(survey, went) + volume_by(survey, came)
+
+
+def least(survey, i):
+    if not has_section(survey, i):
+        return [NOT_THERE]
+    row = survey.depths[i]
+    return [min(row), row.index(min(row))]
+
+
+def bar(survey):
+    if len(survey.depths) == 0:
+        return [NONE_YET]
+    depths = [min(row) for row in survey.depths]
+    i = depths.index(min(depths))
+    return [depths[i], i, survey.depths[i].index(depths[i])]
+
+
+def high(survey, i):
+    if not has_section(survey, i):
+        return [NOT_THERE]
+    points = high_points(survey, i)
+    return [len(points)] + points
+
+
+def clear_or_not(survey, i):
+    if not has_section(survey, i):
+        return [NOT_THERE]
+    return [1 if len(high_points(survey, i)) == 0 else 0]
+
+
+def cleared(survey):
+    sections = [i for i in range(len(survey.depths)) if len(high_points(survey, i)) == 0]
+    return [len(sections)] + sections
+
+
+def way(survey, k):
+    if k > WIDEST_TURN:
+        return [OUT_OF_RANGE]
+    if len(survey.depths) == 0:
+        return [NONE_YET]
+    onward = deepest_onward(survey.depths, k)
+    deep = max(onward[0])
+    points = []
+    start = 0
+    end = survey.points
+    for row in onward:
+        # The least point from which it stays so deep to the end: so of like ways the first is told.
+        j = min([m for m in range(start, end) if row[m] >= deep])
+        points.append(j)
+        start = max(j - k, 0)
+        end = min(j + k + 1, survey.points)
+    return [deep] + points
+
+
+def wide(survey, i, d):
+    if not has_section(survey, i):
+        return [NOT_THERE]
+    longest = 0
+    together = 0
+    for depth in survey.depths[i]:
+        together = together + 1 if depth >= d else 0
+        longest = max(longest, together)
+    return [longest]
+
+
+def worst(survey):
+    if len(survey.depths) == 0:
+        return [NONE_YET]
+    areas = [twice_area(survey, to_be_dug(survey, i)) for i in range(len(survey.depths))]
+    return [areas.index(max(areas)), max(areas)]
+
+
+def look(survey, i):
+    if not has_section(survey, i):
+        return [NOT_THERE]
+    return [survey.designs[i]] + survey.depths[i]
+
+
+def level(survey, d):
+    if d > DEEPEST:
+        return [OUT_OF_RANGE]
+    return volume_by(survey, [short_of(row, d) for row in survey.depths])
+
+
+def state(survey):
+    marked = 1 if len(survey.marked) > 0 else 0
+    return [0, len(survey.depths), survey.points, survey.step, survey.apart, survey.over, marked]
+
+
 # By a call's number: what carries it out, how many whole numbers it has, how many rows.
-# A call that has None here is gone past by its length, and answers no number once begun.
 CALLS = (
     (begin, 4, 0),
     (add_section, 1, 1),
@@ -187,18 +304,18 @@ CALLS = (
     (volume, 0, 0),
     (between, 2, 0),
     (wasted, 0, 0),
-    (None, 0, 0),
-    (None, 1, 0),
-    (None, 0, 0),
-    (None, 1, 0),
-    (None, 1, 0),
-    (None, 0, 0),
-    (None, 1, 0),
-    (None, 2, 0),
-    (None, 0, 0),
-    (None, 1, 0),
-    (None, 1, 0),
-    (None, 0, 0),
+    (gone, 0, 0),
+    (least, 1, 0),
+    (bar, 0, 0),
+    (high, 1, 0),
+    (clear_or_not, 1, 0),
+    (cleared, 0, 0),
+    (way, 1, 0),
+    (wide, 2, 0),
+    (worst, 0, 0),
+    (look, 1, 0),
+    (level, 1, 0),
+    (state, 0, 0),
 )
 
 
@@ -228,12 +345,9 @@ def carry_out(act, survey, given):
 
 
 def answer_of(survey, number, given):
-    act = CALLS[number][0]
     if number > 0 and not survey.begun:
         return [NOT_BEGUN]
-    if act is None:
-        return []
-    return carry_out(act, survey, given)
+    return carry_out(CALLS[number][0], survey, given)
 
 
 def answers(calls):

@@ -1,5 +1,7 @@
 """Calls by their words, and answers call by call, for all tests."""
 
+from fractions import Fraction
+
 from channelway.survey import answers
 
 NAMES = (
@@ -7,7 +9,7 @@ NAMES = (
     "gone", "least", "bar", "high", "clear", "cleared", "way", "wide", "worst", "look", "level", "state",
 )
 WHOLES = (4, 1, 3, 2, 3, 2, 1, 0, 1, 0, 2, 0, 0, 1, 0, 1, 1, 0, 1, 2, 0, 1, 1, 0)
-BUILT = NAMES[:12]
+LOOKS = NAMES[8:]
 LARGEST = 4294967295
 
 
@@ -49,18 +51,69 @@ def last(*calls):
     return ask(*calls)[-1]
 
 
+def fortieths(told):
+    return told[0] * 40 + told[1]
+
+
+def by_trapezes(step, apart, rows):
+    """Cubic metres as a surveyor reckons: mean heights in metres between points, mean areas between sections."""
+    areas = []
+    for heights in rows:
+        areas.append(sum(Fraction(a + b, 20) * step for a, b in zip(heights, heights[1:])))
+    return sum(((a + b) / 2 * apart for a, b in zip(areas, areas[1:])), Fraction(0))
+
+
+def rising(sections, points, factor):
+    """Depths from 0 to 120 that follow no plain order, the same each time."""
+    return [[(factor * (i * points + j + 1) ** 2 + 5 * j) % 121 for j in range(points)] for i in range(sections)]
+
+
+def laid(step, apart, over, designs, rows):
+    return [("begin", len(rows[0]), step, apart, over)] + [("section", d, row) for d, row in zip(designs, rows)]
+
+
+def shows(sections):
+    """Looks that tell all that the object holds: state, every section, and by gone what was marked."""
+    return [("state",)] + [("look", i) for i in range(sections + 1)] + [("gone",)]
+
+
+def around(before, call, sections):
+    """What the object shows ahead of the call, the call's answer, what the object shows behind it."""
+    looks = shows(sections)
+    told = ask(*before, *looks, call, *looks)[len(before):]
+    return told[:len(looks)], told[len(looks)], told[len(looks) + 1:]
+
+
+class Draw:
+    """Numbers that follow no plain order, the same ones for the same seed under every Python."""
+
+    def __init__(self, seed):
+        self.now = seed * 7919 + 1
+
+    def below(self, bound):
+        self.now = (self.now * 6364136223846793005 + 1442695040888963407) % 2 ** 64
+        return (self.now >> 33) % bound
+
+    def of(self, values):
+        return values[self.below(len(values))]
+
+
 def probes(sections, points):
     """Calls that show all that can be asked of an object of so many sections and points.
 
     Those that only look come first; set and design answer what was there, and then lay all
     points at known depths, so that the areas and volumes behind them show step, apart and over.
+    Then each point in turn is set to 0, and gone behind it shows how deep it was marked.
     """
-    calls = [("volume",), ("wasted",)]
+    calls = shows(sections) + [("volume",), ("wasted",)]
     calls += [("area", i) for i in range(sections + 1)]
     calls += [("between", i, k) for i in range(sections + 1) for k in range(sections + 1)]
     calls += [("set", i, j, 400 - j) for i in range(sections + 1) for j in range(points + 1)]
     calls += [("design", i, 7 * i) for i in range(sections + 1)]
     calls += [("area", i) for i in range(sections)] + [("volume",), ("wasted",)]
+    for i in range(sections):
+        for j in range(points):
+            calls += [("set", i, j, 0), ("gone",)]
     calls += [("section", 0, [400] * count) for count in range(1, 11)]
     calls += [("mark",), ("section", 0, [400] * points)]
     return calls

@@ -2,7 +2,6 @@
 
 import unittest
 
-from channelway.survey import Survey, add_section, begin, dug, mark
 from helper import LARGEST, ask, depths_after, last
 
 BASE = [("begin", 3, 1, 1, 0), ("section", 50, [10, 50, 60]), ("section", 40, [0, 39, 400])]
@@ -165,14 +164,10 @@ class Mark(unittest.TestCase):
                          [[2], [11], [2], [6], [50]])
 
     def test_what_is_marked_does_not_change_with_the_depths(self):
-        survey = Survey()
-        begin(survey, 2, 1, 1, 0)
-        add_section(survey, 5, [1, 2])
-        mark(survey)
-        dug(survey, 0, 0, 30)
-        self.assertEqual((survey.marked, survey.depths), ([[1, 2]], [[31, 2]]))
-        mark(survey)
-        self.assertEqual(survey.marked, [[31, 2]])
+        # 40 m apart, so that gone and come are told in whole cubic metres: those of one point at the end.
+        base = [("begin", 2, 1, 40, 0), ("section", 5, [1, 2]), ("section", 5, [1, 2]), ("mark",)]
+        told = ask(*base, ("dug", 0, 0, 30), ("gone",), ("mark",), ("gone",), ("dug", 0, 0, 4), ("gone",))[4:]
+        self.assertEqual(told, [[31], [30, 0, 0, 0], [2], [0, 0, 0, 0], [35], [4, 0, 0, 0]])
 
     def test_a_survey_set_back_is_still_marked(self):
         self.assertEqual(told(("mark",), ("set", 0, 0, 5), ("set", 0, 0, 10), ("section", 5, [1, 2, 3])),

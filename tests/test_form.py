@@ -75,6 +75,36 @@ class Form(unittest.TestCase):
             used = {node.attr for node in ast.walk(tree) if isinstance(node, ast.Attribute)}
             self.assertEqual(used & python_own - set(METHODS), set())
 
+    def test_no_call_leads_back_into_itself(self):
+        """A function names only functions above it, so calls can't lie deep within one another."""
+        for text, tree in self.each():
+            above = set()
+            defs = [node for node in tree.body if isinstance(node, ast.FunctionDef)]
+            every = {node.name for node in defs}
+            for node in defs:
+                named = {part.id for part in ast.walk(node) if isinstance(part, ast.Name)} & every
+                self.assertEqual(named - above, set(), node.name)
+                above.add(node.name)
+
+    def test_each_name_once(self):
+        for text, tree in self.each():
+            made = [node.name for node in tree.body if isinstance(node, (ast.FunctionDef, ast.ClassDef))]
+            made += [node.targets[0].id for node in tree.body if isinstance(node, ast.Assign)]
+            self.assertEqual(len(made), len(set(made)))
+            names = [node for node in ast.walk(tree) if isinstance(node, ast.Name)]
+            inner = {node.id for node in names if isinstance(node.ctx, ast.Store)}
+            inner |= {node.arg for node in ast.walk(tree) if isinstance(node, ast.arg)}
+            classes = {node.name for node in tree.body if isinstance(node, ast.ClassDef)}
+            self.assertEqual(inner & classes, set())
+
+    def test_ranges_and_their_like_are_walked_at_once(self):
+        walked = ("zip", "enumerate", "reversed", "range")
+        for text, tree in self.each():
+            loops = [node.iter for node in ast.walk(tree) if isinstance(node, (ast.For, ast.comprehension))]
+            for node in ast.walk(tree):
+                if isinstance(node, ast.Call) and isinstance(node.func, ast.Name) and node.func.id in walked:
+                    self.assertIn(node, loops)
+
     def test_nothing_is_imported(self):
         for text, tree in self.each():
             kinds = [node for node in ast.walk(tree) if isinstance(node, (ast.Import, ast.ImportFrom))]

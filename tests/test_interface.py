@@ -20,7 +20,21 @@ LONG = [0, 3, 10, 40, 5,
         11,
         7,
         1, 50, 3, 1, 2, 3,
-        6, 2]
+        6, 2,
+        12,
+        13, 0,
+        14,
+        15, 0,
+        16, 1,
+        17,
+        3, 1, 59,
+        17,
+        18, 1,
+        19, 0, 48,
+        20,
+        21, 1,
+        22, 60,
+        23]
 LONG_TOLD = [1, 0,
              1, 0,
              1, 1,
@@ -34,12 +48,30 @@ LONG_TOLD = [1, 0,
              2, 150, 0,
              1, 2,
              1, -16,
-             1, 6]
+             1, 6,
+             4, 0, 0, 160, 0,
+             2, 18, 0,
+             3, 18, 0, 0,
+             3, 2, 0, 1,
+             1, 0,
+             1, 0,
+             1, 61,
+             2, 1, 1,
+             3, 64, 2, 1,
+             1, 2,
+             2, 0, 360,
+             4, 59, 59, 64, 63,
+             2, 670, 0,
+             7, 0, 2, 3, 10, 40, 5, 1]
 
 
 class Form(unittest.TestCase):
     def test_a_list_of_each_of_these_calls(self):
         self.assertEqual(answers(LONG), LONG_TOLD)
+
+    def test_the_example_of_the_readme(self):
+        calls = [0, 3, 10, 40, 5, 1, 50, 3, 10, 30, 70, 1, 60, 3, 60, 66, 65, 8, 0, 9, 18, 1]
+        self.assertEqual(answers(calls), [1, 0, 1, 0, 1, 1, 2, 800, 150, 2, 800, 0, 3, 66, 2, 1])
 
     def test_one_call(self):
         self.assertEqual(answers([0, 2, 1, 1, 0]), [1, 0])
@@ -57,9 +89,32 @@ class Form(unittest.TestCase):
         self.assertIs(type(told), list)
         self.assertEqual({type(number) for number in told}, {int})
 
+    def test_what_is_told_goes_to_its_end_without_a_count(self):
+        base = [0, 2, 1, 1, 0, 1, 50, 2, 40, 60, 1, 50, 2, 70, 60]
+        self.assertEqual(answers(base + [18, 1])[6:], [3, 60, 1, 0])
+        self.assertEqual(answers(base + [21, 0])[6:], [3, 50, 40, 60])
+
+    def test_of_high_and_cleared_the_count_comes_first(self):
+        base = [0, 2, 1, 1, 0, 1, 50, 2, 40, 60, 1, 50, 2, 70, 60]
+        self.assertEqual(answers(base + [15, 0, 15, 1])[6:], [2, 1, 0, 1, 0])
+        self.assertEqual(answers(base + [17])[6:], [2, 1, 1])
+
     def test_most_calls(self):
         told = answers([0, 9, 50, 100, 50] + [9] * 255)
         self.assertEqual(told, [1, 0] + [2, 0, 0] * 255)
+
+    def test_most_calls_of_each_that_looks(self):
+        """256 calls on a survey of the largest size, a row of numbers behind each of the last 243."""
+        base = [("begin", 9, 50, 100, 50)] + [("section", 400, [j] * 9) for j in range(12)]
+        for name, told in [("look", [400] + [11] * 9), ("high", [9] + list(range(9))), ("least", [11, 0])]:
+            rows = ask(*base, *[(name, 11)] * 243)
+            self.assertEqual(len(rows), 256)
+            self.assertEqual(rows[13:], [told] * 243)
+        rows = ask(*base, *[("way", 8)] * 242, ("mark",))
+        self.assertEqual(rows[13:], [[0] * 13] * 242 + [[12]])
+
+    def test_most_calls_before_a_begin(self):
+        self.assertEqual(answers([23] * 256), [1, -11] * 256)
 
     def test_longest_list(self):
         calls = [0, 2, 1, 1, 0, 1, 5, 29900] + [3] * 29900 + [9] * 92
@@ -75,6 +130,7 @@ class Form(unittest.TestCase):
                 with self.subTest(call=call):
                     told = ask(*base, call, ("volume",), ("design", 1, 3), call, ("mark",))
                     self.assertEqual(told[4:6] + told[7:], [[0, 5], [9], [2]])
+                    self.assertTrue(len(told[3]) > 0 and len(told[6]) > 0)
 
     def test_every_call_before_a_begin_is_gone_past_by_its_length(self):
         for number in range(1, 24):
@@ -106,6 +162,7 @@ class NothingElse(unittest.TestCase):
         answers(LONG)
         self.assertEqual(answers([9]), [1, -11])
         self.assertEqual(answers(flat([("begin", 2, 1, 1, 0), ("area", 0), ("mark",)])), [1, 0, 1, -2, 1, -6])
+        self.assertEqual(answers([0, 2, 1, 1, 0, 12, 23]), [1, 0, 1, -6, 7, 0, 0, 2, 1, 1, 0, 0])
 
     def test_what_is_given_back_is_free_to_change(self):
         answers(LONG).clear()
@@ -118,7 +175,7 @@ class NothingElse(unittest.TestCase):
         self.assertEqual((out.getvalue(), err.getvalue()), ("", ""))
 
     def test_answers_part_by_call(self):
-        self.assertEqual(len(apart_by_call(answers(LONG))), 14)
+        self.assertEqual(len(apart_by_call(answers(LONG))), 28)
 
 
 if __name__ == "__main__":

@@ -2,7 +2,7 @@
 
 import unittest
 
-from helper import BUILT, LARGEST, NAMES, WHOLES, ask, last, seen
+from helper import LARGEST, LOOKS, NAMES, WHOLES, around, ask, last, seen
 
 START = ("begin", 3, 2, 4, 1)
 FIRST = ("section", 9, [1, 9, 20])
@@ -44,6 +44,32 @@ ALONE = [
     (TWO, ("between", 2, 3), -2),
     (TWO, ("between", 1, 1), -22),
     (TWO, ("between", 1, 0), -22),
+    (TWO, ("gone",), -6),
+    ([START], ("gone",), -6),
+    (TWO, ("least", 2), -2),
+    (TWO, ("least", LARGEST), -2),
+    ([START], ("least", 0), -2),
+    ([START], ("bar",), -6),
+    (TWO, ("high", 2), -2),
+    (TWO, ("high", LARGEST), -2),
+    ([START], ("high", 0), -2),
+    (TWO, ("clear", 2), -2),
+    (TWO, ("clear", LARGEST), -2),
+    ([START], ("clear", 0), -2),
+    (TWO, ("way", 9), -22),
+    (MARKED, ("way", LARGEST), -22),
+    ([START], ("way", 8), -6),
+    ([START], ("way", 0), -6),
+    (TWO, ("wide", 2, 5), -2),
+    (TWO, ("wide", LARGEST, 0), -2),
+    ([START], ("wide", 0, 0), -2),
+    ([START], ("worst",), -6),
+    (TWO, ("look", 2), -2),
+    (TWO, ("look", LARGEST), -2),
+    ([START], ("look", 0), -2),
+    (TWO, ("level", 401), -22),
+    ([START], ("level", 401), -22),
+    (MARKED, ("level", LARGEST), -22),
     (TWO, ("begin", 1, 1, 1, 0), -22),
     (MARKED, ("begin", 2, 0, 1, 0), -22),
     (TWO, ("begin", 2, 1, 0, 0), -22),
@@ -78,6 +104,8 @@ TOGETHER = [
     (TWO, ("between", 3, 2), -2),
     (TWO, ("between", LARGEST, LARGEST), -2),
     ([START], ("between", 0, 0), -2),
+    ([START], ("way", 9), -22),
+    ([START], ("way", LARGEST), -22),
 ]
 
 
@@ -97,6 +125,13 @@ class Refused(unittest.TestCase):
             sections = sum(1 for made in before if made[0] == "section")
             with self.subTest(call=call, before=len(before)):
                 self.assertEqual(seen(before + [call], sections, 3), seen(before, sections, 3))
+
+    def test_shows_the_same_before_and_after(self):
+        for before, call, number in ALONE + TOGETHER:
+            sections = sum(1 for made in before if made[0] == "section")
+            with self.subTest(call=call, before=len(before)):
+                first, told, then = around(before, call, sections)
+                self.assertEqual((told, then), ([number], first))
 
     def test_changes_nothing_that_is_not_begun(self):
         self.assertEqual(seen([("begin", 3, 1, 1, 51)], 1, 3), seen([("silt", 0)], 1, 3))
@@ -133,20 +168,62 @@ class NotBegun(unittest.TestCase):
         self.assertEqual(told, [[-11], [-11], [0], [-6], [0]])
 
 
+class Looking(unittest.TestCase):
+    given = {"area": (1,), "between": (0, 1), "least": (1,), "high": (0,), "clear": (1,), "way": (1,), "wide": (1, 7),
+             "look": (0,), "level": (9,)}
+    changed = MARKED + [("dug", 0, 1, 5), ("silt", 2), ("design", 1, 12)]
+
+    def test_changes_nothing(self):
+        for before in (TWO, MARKED, self.changed, FULL):
+            for name in LOOKS:
+                call = (name, *self.given.get(name, ()))
+                sections = 12 if before is FULL else 2
+                with self.subTest(call=call, before=len(before)):
+                    first, told, then = around(before, call, sections)
+                    self.assertEqual(then, first)
+                    self.assertEqual(seen(before + [call], sections, 3), seen(before, sections, 3))
+                    if name != "gone":
+                        self.assertGreaterEqual(told[0], 0)
+
+    def test_changes_nothing_without_sections(self):
+        for name in LOOKS:
+            call = (name, *self.given.get(name, ()))
+            with self.subTest(call=call):
+                first, told, then = around([START], call, 0)
+                self.assertEqual(then, first)
+                self.assertEqual(seen([START, call], 0, 3), seen([START], 0, 3))
+
+    def test_answers_the_same_again(self):
+        looks = [(name, *self.given.get(name, ())) for name in LOOKS]
+        told = ask(*self.changed, *looks, *looks)[len(self.changed):]
+        self.assertEqual(told[:len(looks)], told[len(looks):])
+
+
 class LargestNumbers(unittest.TestCase):
     def test_wherever_one_may_stand(self):
         good = {"begin": [3, 2, 4, 1], "section": [9], "set": [0, 0, 5], "design": [0, 5], "dug": [0, 0, 5],
-                "sweep": [0, 5], "silt": [5], "area": [0], "between": [0, 1]}
+                "sweep": [0, 5], "silt": [5], "area": [0], "between": [0, 1], "least": [0], "high": [0], "clear": [0],
+                "way": [0], "wide": [0, 0], "look": [0], "level": [0]}
         none = {("set", 0), ("set", 1), ("design", 0), ("dug", 0), ("dug", 1), ("sweep", 0), ("area", 0),
-                ("between", 0), ("between", 1)}
-        for name in BUILT:
+                ("between", 0), ("between", 1), ("least", 0), ("high", 0), ("clear", 0), ("wide", 0), ("look", 0)}
+        for name in NAMES:
             for place in range(WHOLES[NAMES.index(name)]):
                 given = list(good[name])
                 given[place] = LARGEST
                 if name == "section":
                     given.append([1, 2, 3])
+                number = [-2] if (name, place) in none else [-22]
+                # As deep as that no point is; wide refuses no depth.
+                expected = [0] if (name, place) == ("wide", 1) else number
                 with self.subTest(name=name, given=given):
-                    self.assertEqual(last(*TWO, (name, *given)), [-2] if (name, place) in none else [-22])
+                    self.assertEqual(last(*TWO, (name, *given)), expected)
+
+    def test_in_all_places_at_once(self):
+        ahead = {"begin": -22, "section": -22, "silt": -22, "way": -22, "level": -22}
+        for number, name in enumerate(NAMES):
+            if WHOLES[number] > 0:
+                with self.subTest(name=name):
+                    self.assertEqual(last(*TWO, with_all(number, LARGEST)), [ahead.get(name, -2)])
 
 
 if __name__ == "__main__":

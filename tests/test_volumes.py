@@ -3,28 +3,7 @@
 import unittest
 from fractions import Fraction
 
-from helper import LARGEST, ask, last
-
-
-def fortieths(told):
-    return told[0] * 40 + told[1]
-
-
-def by_trapezes(step, apart, rows):
-    """Cubic metres as a surveyor reckons: mean heights in metres between points, mean areas between sections."""
-    areas = []
-    for heights in rows:
-        areas.append(sum(Fraction(a + b, 20) * step for a, b in zip(heights, heights[1:])))
-    return sum(((a + b) / 2 * apart for a, b in zip(areas, areas[1:])), Fraction(0))
-
-
-def rising(sections, points, factor):
-    """Depths from 0 to 120 that follow no plain order, the same each time."""
-    return [[(factor * (i * points + j + 1) ** 2 + 5 * j) % 121 for j in range(points)] for i in range(sections)]
-
-
-def laid(step, apart, over, designs, rows):
-    return [("begin", len(rows[0]), step, apart, over)] + [("section", d, row) for d, row in zip(designs, rows)]
+from helper import LARGEST, ask, by_trapezes, fortieths, laid, last, rising
 
 
 class Area(unittest.TestCase):
